@@ -1,1 +1,1 @@
-"""A question planned: tables, a question asked of them, and how its atoms hang together."""
+"""A question planned: tables, a question asked of them, its ways, and how its atoms are joined."""

@@ -1,9 +1,11 @@
 """The calls on one object: read from one list, answered into one list."""
 
-from joinplans.atoms import read_atoms
+from joinplans.atoms import read_atoms, variables_of
 from joinplans.hanging import take_off
 from joinplans.leftover import rows_left
+from joinplans.plans import WayCounts, cheapest_order, cheapest_plan, is_order, order_cost
 from joinplans.tables import Store, Table, is_row_of
+from joinplans.ways import count_ways, group_ways, parts_of, pick, places_of
 
 BEGIN = 0
 TABLE = 1
@@ -11,7 +13,9 @@ ROW = 2
 QUESTION = 3
 TREE = 4
 LEFT = 5
+COUNT = 6
 ANSWERS = 7
+ORDER = 8
 COST = 9
 
 WRONG = -1
@@ -21,10 +25,6 @@ FULL = -6
 MOST_TABLES = 6
 MOST_COLUMNS = 4
 MOST_ROWS = 10
-
-
-class CallNotBuilt(Exception):
-    pass
 
 
 class Reader:
@@ -106,18 +106,66 @@ def tell_left(question, atom):
     return told
 
 
+def some_atom_has(question, variable):
+    return any([variable in variables_of(atom) for atom in question])
+
+
+# A variable that is asked for twice makes no new rows and no other order, so the rows are told by each once
+# and written out at the end.
+def tell_answers(question, variables):
+    if not all([some_atom_has(question, variable) for variable in variables]):
+        return [WRONG]
+    groups = group_ways(parts_of(question), variables)
+    places = places_of(variables, groups.variables)
+    told = [len(groups.sizes)]
+    for group in sorted(groups.sizes):
+        told.extend(pick(group, places))
+    return told
+
+
+def tell_order(question):
+    counts = WayCounts(question)
+    order = cheapest_order(counts)
+    return [order_cost(counts, order)] + list(order)
+
+
+def tell_cost(question, order):
+    if not is_order(order, question):
+        return [WRONG]
+    return [order_cost(WayCounts(question), order)]
+
+
+def tell_plan(question):
+    plan = cheapest_plan(WayCounts(question))
+    return [plan.cost] + plan.steps
+
+
+def answer_with(question, call, numbers):
+    if call == TREE:
+        return tell_tree(question)
+    if call == LEFT:
+        return tell_left(question, numbers[0])
+    if call == COUNT:
+        return [count_ways(parts_of(question))]
+    if call == ANSWERS:
+        return tell_answers(question, numbers)
+    if call == ORDER:
+        return tell_order(question)
+    if call == COST:
+        return tell_cost(question, numbers)
+    return tell_plan(question)
+
+
 # The numbers are taken ahead of a refusal, or the next call would begin within this one.
 def answer_of_question(store, call, reader):
-    atom = reader.take_number() if call == LEFT else None
-    if call == ANSWERS or call == COST:
-        reader.take_list()
+    numbers = []
+    if call == LEFT:
+        numbers = [reader.take_number()]
+    elif call == ANSWERS or call == COST:
+        numbers = reader.take_list()
     if len(store.question) == 0:
         return [NO_QUESTION]
-    if call == TREE:
-        return tell_tree(store.question)
-    if call == LEFT:
-        return tell_left(store.question, atom)
-    raise CallNotBuilt()
+    return answer_with(store.question, call, numbers)
 
 
 def answer_call(store, reader):

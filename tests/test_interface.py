@@ -3,17 +3,17 @@
 import unittest
 
 from joinplans.planner import answers
-from tests.helper import atom, begin, joined, left, question, row, table, tree
+from tests.helper import answered, atom, begin, cost, count, joined, left, order, plan, question, row, table, tree
 
 SESSION = joined(
     table(2), table(1), row(0, 2, 1), row(0, 1, 2), row(1, 2), row(1, 1000000001),
-    question(atom(0, "v0", "v1"), atom(1, "v1")), tree, left(0), left(2), begin, left(0), table(0), row(0),
-    question(atom(0)), left(0),
+    question(atom(0, "v0", "v1"), atom(1, "v1")), tree, left(0), left(2), count, answered(1, 0), answered(2), order,
+    cost(1, 0), cost(0), plan, begin, left(0), plan, table(0), row(0), question(atom(0)), left(0), answered(), order,
 )
 SESSION_TOLD = [
     1, 0, 1, 1, 1, 1, 1, 1, 1, 1, 1, -1,
-    1, 2, 6, 1, 1, 0, 1, 1, 1, 3, 1, 1, 2, 1, -1, 1, 0, 1, -5, 1, 0, 1, 1,
-    1, 1, 1, 1,
+    1, 2, 6, 1, 1, 0, 1, 1, 1, 3, 1, 1, 2, 1, -1, 1, 1, 3, 1, 2, 1, 1, -1, 3, 1, 0, 1,
+    1, 1, 1, -1, 4, 1, 0, 1, -1, 1, 0, 1, -5, 1, -5, 1, 0, 1, 1, 1, 1, 1, 1, 1, 1, 2, 0, 0,
 ]
 
 
@@ -35,6 +35,11 @@ class Interface(unittest.TestCase):
         self.assertEqual(answers([3, 0]), [1, 0])
         self.assertEqual(answers([4]), [1, -5])
         self.assertEqual(answers([5, 0]), [1, -5])
+        self.assertEqual(answers([6]), [1, -5])
+        self.assertEqual(answers([7, 1, 0]), [1, -5])
+        self.assertEqual(answers([8]), [1, -5])
+        self.assertEqual(answers([9, 1, 0]), [1, -5])
+        self.assertEqual(answers([10]), [1, -5])
 
     def test_several_behind_one_another(self):
         self.assertEqual(answers(SESSION), SESSION_TOLD)
@@ -42,6 +47,9 @@ class Interface(unittest.TestCase):
     def test_lists_of_a_hundred_numbers_are_read_whole(self):
         calls = joined(table(1), row(0, *[0] * 100), question([0] * 100), table(1))
         self.assertEqual(answers(calls), [1, 0, 1, -1, 1, -1, 1, 1])
+        for start in ([], [3, 3, 0, 1, 0]):
+            calls = joined(table(1), start, answered(*[7] * 100), cost(*[8] * 100), table(1))
+            self.assertEqual(answers(calls)[-2:], [1, 1])
 
     def test_sixty_calls(self):
         calls = joined(table(1), row(0, 5), question(atom(0, "v0")), *[left(0)] * 57)

@@ -3,24 +3,13 @@
 import itertools
 import unittest
 
-from tests.helper import GREATEST, LEAST, atom, left, question, row, table, told, told_last, tree
+from tests.helper import (GREATEST, LEAST, agree, asked, atom, bound_by, left, question, row, table, told, told_last,
+                          tree, written)
 
 
 def left_of(tables, *atoms):
-    """What left answers of each atom; a table is how many columns it has and its rows."""
-    calls = []
-    for number, (columns, rows) in enumerate(tables):
-        calls += [table(columns)] + [row(number, *values) for values in rows]
-    calls.append(question(*atoms))
-    return told(*calls, *[left(number) for number in range(len(atoms))])[-len(atoms):]
-
-
-def bound_by(terms, values):
-    """The variables with their values, or None where the row doesn't fit."""
-    if any(isinstance(term, int) and term != value for term, value in zip(terms, values)):
-        return None
-    pairs = {(term, value) for term, value in zip(terms, values) if isinstance(term, str)}
-    return dict(pairs) if len(dict(pairs)) == len(pairs) else None
+    """What left answers of each atom."""
+    return told(*asked(tables, *atoms), *[left(number) for number in range(len(atoms))])[-len(atoms):]
 
 
 def left_by_the_words(tables, atoms):
@@ -39,8 +28,7 @@ def left_by_the_words(tables, atoms):
 
 
 def lacks_partner(entry, standing, how_many):
-    partners = {number for number, _, bound in standing
-                if all(bound[name] == entry[2][name] for name in bound.keys() & entry[2].keys())}
+    partners = {number for number, _, bound in standing if agree(bound, entry[2])}
     return len(partners | {entry[0]}) < how_many
 
 
@@ -198,14 +186,14 @@ class LeftByTheWords(unittest.TestCase):
         for atoms in self.QUESTIONS:
             for first, second in itertools.product(some, repeat=2):
                 tables = [(2, first), (2, second)]
-                self.assertEqual(left_of(tables, *[atom(*terms) for terms in atoms]), left_by_the_words(tables, atoms))
+                self.assertEqual(left_of(tables, *written(atoms)), left_by_the_words(tables, atoms))
 
     def test_paths_within_a_table_of_ten_rows(self):
         for step in range(1, 7):
             rows = [(k, (k * step + 1) % 11) for k in range(10)]
             atoms = [(0, f"v{k}", f"v{k + 1}") for k in range(5)]
             tables = [(2, rows)]
-            self.assertEqual(left_of(tables, *[atom(*terms) for terms in atoms]), left_by_the_words(tables, atoms))
+            self.assertEqual(left_of(tables, *written(atoms)), left_by_the_words(tables, atoms))
 
 
 if __name__ == "__main__":

@@ -2,19 +2,22 @@
 
 import unittest
 
-from tests.helper import GREATEST, LEAST, atom, begin, left, question, row, table, told, told_last, tree
+from tests.helper import (GREATEST, LEAST, answered, atom, begin, cost, count, left, order, plan, question, row, table,
+                          told, told_last, tree)
 
 NO_QUESTION_CALLS = {
-    "tree": [4],
-    "left": [5, 0],
-    "left of no such atom": [5, -1],
-    "count": [6],
-    "answers": [7, 2, 0, 1],
-    "answers of no variables": [7, 0],
-    "order": [8],
-    "cost": [9, 1, 0],
-    "cost of an empty list": [9, 0],
-    "plan": [10],
+    "tree": tree,
+    "left": left(0),
+    "left of no such atom": left(-1),
+    "count": count,
+    "answers": answered(0, 1),
+    "answers of no variables": answered(),
+    "answers of no such variable": answered(-1, 10),
+    "order": order,
+    "cost": cost(0),
+    "cost of an empty list": cost(),
+    "cost of what is no order": cost(0, 0, -1),
+    "plan": plan,
 }
 
 
